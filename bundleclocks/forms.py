@@ -1,4 +1,4 @@
-"""Which form a thing has, asked of any thing, whatever it is."""
+"""Which form a thing has, asked of any thing, whatever it is; and sums of numbers, tuples (top, bottom)."""
 
 LETTERS = "abcdefghijklmnopqrstuvwxyz"
 LONGEST_NAME = 8
@@ -25,3 +25,31 @@ def is_name(thing):
 def is_tuple_of(thing, least, most):
     """Whether it is a tuple of so many things, whichever they are."""
     return isinstance(thing, tuple) and least <= len(thing) <= most
+
+
+def shared_divisor(one, other):
+    """The greatest whole number that divides both; not both are 0."""
+    while other != 0:
+        one, other = other, one % other
+    return abs(one)
+
+
+def number(top, bottom):
+    """The number of that top and bottom, the bottom above 0, in its lowest terms."""
+    shared = shared_divisor(top, bottom)
+    return (top // shared, bottom // shared)
+
+
+def plus(one, other):
+    """The sum of two numbers."""
+    return number(one[0] * other[1] + other[0] * one[1], one[1] * other[1])
+
+
+def minus(one, other):
+    """The one number less the other."""
+    return plus(one, (-other[0], other[1]))
+
+
+def is_below(one, other):
+    """Whether the one number is less than the other."""
+    return one[0] * other[1] < other[0] * one[1]
