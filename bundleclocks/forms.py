@@ -27,6 +27,20 @@ def is_tuple_of(thing, least, most):
     return isinstance(thing, tuple) and least <= len(thing) <= most
 
 
+def is_bundle(thing, kinds):
+    """Whether it is a bundle of so many kinds."""
+    return is_tuple_of(thing, kinds, kinds) and all([is_whole(many) and many >= 0 for many in thing])
+
+
+def is_same(thing, told):
+    """Whether the thing is what was told, down to the innermost; what was told holds no truths and no lists."""
+    if isinstance(told, tuple):
+        if not is_tuple_of(thing, len(told), len(told)):
+            return False
+        return all([is_same(part, other) for part, other in zip(thing, told)])
+    return not isinstance(thing, bool) and thing == told
+
+
 def shared_divisor(one, other):
     """The greatest whole number that divides both; not both are 0."""
     while other != 0:
@@ -38,6 +52,13 @@ def number(top, bottom):
     """The number of that top and bottom, the bottom above 0, in its lowest terms."""
     shared = shared_divisor(top, bottom)
     return (top // shared, bottom // shared)
+
+
+def is_number(thing):
+    """Whether it is a number."""
+    if not is_tuple_of(thing, 2, 2) or not is_whole(thing[0]) or not is_whole(thing[1]) or thing[1] < 1:
+        return False
+    return shared_divisor(thing[0], thing[1]) == 1
 
 
 def plus(one, other):

@@ -1,4 +1,4 @@
-"""Points 6, 7, 9 and 19 to 24 told again by sums that owe the program nothing; and inputs to ask them of."""
+"""Points 6, 7, 9 and 19 to 25 told again by sums that owe the program nothing; and inputs to ask them of."""
 
 import random
 from fractions import Fraction
@@ -271,32 +271,6 @@ def blocks_again(amounts, bids, choice, payments):
     return ([some for some in sets_again(len(bids)) if over[some] == most][0], most)
 
 
-def lowered_faults(answer, amounts, bids, choice):
-    """All by which the answer fails to be the payments and rounds of point 24."""
-    if type(answer) is not tuple or len(answer) != 2 or type(answer[1]) is not tuple:
-        return ["no tuple of payments and rounds"]
-    payments, rounds = answer
-    worth_of = set_worths_again(amounts, bids)
-    won = won_again(bids, choice)
-    paid = [Fraction(money) for money in won]
-    moving = [place for place in range(len(bids)) if won[place] > 0]
-    faults = []
-    for told in rounds:
-        if not moving:
-            return faults + [("none moves", told)]
-        paid, moving, more = round_faults(told, worth_of, won, paid, moving)
-        faults += more
-    if moving:
-        faults.append(("some move still", moving))
-    return faults + payment_faults(payments, paid)
-
-
-def payment_faults(payments, paid):
-    if type(payments) is not tuple or not all([is_number(payment) for payment in payments]):
-        return [("no tuple of numbers", payments)]
-    return [] if fractions_of(payments) == paid else [("other payments", payments, paid)]
-
-
 def amount_again(worth_of, won, paid, moving):
     """The greatest amount, found as the least at which somebody comes to 0 or a set to the edge of blocking."""
     over = over_worth(worth_of, won, paid)
@@ -308,8 +282,8 @@ def amount_again(worth_of, won, paid, moving):
     return min(edges)
 
 
-def round_faults(told, worth_of, won, paid, moving):
-    """The payments behind the round, those that move on, and all by which it fails to be one of point 24."""
+def round_again(worth_of, won, paid, moving):
+    """(amount, sets, stops, payments) of one round of point 24, with Fractions; fails where nobody would stop."""
     amount = amount_again(worth_of, won, paid, moving)
     after = [paid[place] - amount if place in moving else paid[place] for place in range(len(paid))]
     over = over_worth(worth_of, won, after)
@@ -318,17 +292,39 @@ def round_faults(told, worth_of, won, paid, moving):
     beyond = over_worth(worth_of, won, [after[at] - little if at in moving else after[at] for at in range(len(after))])
     sets = tuple([some for some in sets_again(len(paid)) if over[some] <= 0 < beyond[some]])
     stops = tuple([at for at in moving if after[at] == 0 or not all([at in some for some in sets])])
-    on = [at for at in moving if at not in stops]
-    if type(told) is not tuple or len(told) != 4:
-        return after, on, [("no round", told)]
-    faults = payment_faults(told[3], after)
-    if not is_number(told[0]) or Fraction(*told[0]) != amount:
-        faults.append(("another amount", told[0], amount))
-    if repr(told[1:3]) != repr((sets, stops)):
-        faults.append(("other sets or stops", told[1:3], sets, stops))
-    if not stops or min(after) < 0 or max(over.values()) > 0:
-        faults.append("these sums themselves are off")
-    return after, on, faults
+    assert stops and min(after) >= 0 and max(over.values()) <= 0, (won, paid, moving)
+    return amount, sets, stops, after
+
+
+def as_number(shown):
+    return (shown.numerator, shown.denominator)
+
+
+def lowered_again(amounts, bids, choice):
+    """The payments and rounds of point 24."""
+    worth_of = set_worths_again(amounts, bids)
+    won = won_again(bids, choice)
+    paid = [Fraction(money) for money in won]
+    moving = [place for place in range(len(bids)) if won[place] > 0]
+    rounds = []
+    while moving:
+        amount, sets, stops, paid = round_again(worth_of, won, paid, moving)
+        rounds.append((as_number(amount), sets, stops, tuple([as_number(one) for one in paid])))
+        moving = [place for place in moving if place not in stops]
+    return (tuple([as_number(one) for one in paid]), tuple(rounds))
+
+
+def first_best_again(amounts, bids):
+    """The best choice, of several the first, found from the first bidder on by what those behind can bring."""
+    left, choice = amounts, []
+    for bidder, row in enumerate(bids):
+        most = most_again(left, bids[bidder:])
+        fits = [(at, taken_away(left, bundle), money) for at, (bundle, money) in enumerate(row)]
+        good = [(at, rest) for at, rest, money in fits
+                if rest is not None and money + most_again(rest, bids[bidder + 1:]) == most]
+        place, left = good[0] if good else (None, left)
+        choice.append(place)
+    return tuple(choice)
 
 
 def random_money(rng, most):
@@ -352,3 +348,138 @@ def random_bids(seed, many, most_bidders=6, most_bids=20):
         ])
         cases.append((amounts, bids))
     return cases
+
+
+def need(truth):
+    if not truth:
+        raise AssertionError
+
+
+def need_tuple(thing, least, most):
+    need(type(thing) is tuple and least <= len(thing) <= most)
+
+
+def need_bundle(thing, kinds, most=None):
+    need_tuple(thing, kinds, kinds)
+    need(all([is_whole(many) and many >= 0 and (most is None or many <= most) for many in thing]))
+
+
+def need_bid(thing, kinds):
+    need_tuple(thing, 2, 2)
+    need_bundle(thing[0], kinds)
+    need(is_whole(thing[1]) and thing[1] >= 0)
+
+
+def need_history(kinds, rounds, sealed):
+    need(is_whole(kinds) and 1 <= kinds <= 3)
+    need_tuple(rounds, 0, 12)
+    need_tuple(sealed, 0, 12)
+    for one in rounds:
+        need_tuple(one, 2, 2)
+        need_bundle(one[0], kinds, MILLION)
+        need_bundle(one[1], kinds)
+    for at, one in enumerate(sealed):
+        need_bid(one, kinds)
+        need(max(one[0]) > 0 and one[0] not in [other[0] for other in sealed[:at]])
+
+
+def need_deal(amounts, bids, choice):
+    need_tuple(amounts, 1, 3)
+    need_bundle(amounts, len(amounts), 4)
+    need_tuple(bids, 1, 6)
+    for row in bids:
+        need_tuple(row, 0, 20)
+        for one in row:
+            need_bid(one, len(amounts))
+    need_tuple(choice, len(bids), len(bids))
+    for row, place in zip(bids, choice):
+        need(place is None or is_whole(place) and 0 <= place < len(row))
+    need(choice_sum(amounts, bids, choice) is not None)
+
+
+def look_at_worths(kinds, rounds, sealed, row):
+    need_history(kinds, rounds, sealed)
+    need_tuple(row, 1, 25)
+    for one in row:
+        need_bid(one, kinds)
+    need(row_faults(row, rounds, sealed, kinds) == [])
+
+
+def look_at_ring(kinds, rounds, sealed, ring):
+    need_history(kinds, rounds, sealed)
+    need_tuple(ring, 1, 40)
+    for step in ring:
+        need_tuple(step, 3, 3)
+        need(type(step[0]) is str)
+        need_bundle(step[2], kinds)
+    need(ring_faults(ring, rounds, sealed, kinds) == [])
+
+
+def look_at_best(amounts, bids, choice, table):
+    need_deal(amounts, bids, choice)
+    need(bound_again(amounts, bids, table) == choice_sum(amounts, bids, choice))
+
+
+def look_at_core(amounts, bids, choice, payments):
+    need_deal(amounts, bids, choice)
+    need_tuple(payments, len(bids), len(bids))
+    need(all([is_number(payment) for payment in payments]))
+    paid, won = fractions_of(payments), won_again(bids, choice)
+    over = over_worth(set_worths_again(amounts, bids), won, paid)
+    need(max(over.values()) <= 0)
+    for place in range(len(bids)):
+        need(0 <= paid[place] <= won[place])
+        need(paid[place] == 0 or [some for some in over if over[some] == 0 and place not in some])
+
+
+def holds_again(claim, paper):
+    """Point 25, of any things."""
+    looks = {"worths": look_at_worths, "ring": look_at_ring, "best": look_at_best, "core": look_at_core}
+    try:
+        need_tuple(claim, 4, 4)
+        need(type(claim[0]) is str and claim[0] in looks)
+        looks[claim[0]](*claim[1:], paper)
+    except AssertionError:
+        return False
+    return True
+
+
+def paths_of(thing):
+    """The ways to each part of a thing, the thing itself first."""
+    paths = [()]
+    if type(thing) in (tuple, list):
+        for at, part in enumerate(thing):
+            paths += [(at,) + path for path in paths_of(part)]
+    return paths
+
+
+def part_at(thing, path):
+    return thing if path == () else part_at(thing[path[0]], path[1:])
+
+
+def put_at(thing, path, part):
+    """The thing with another part at the end of that way."""
+    if path == ():
+        return part
+    kind = type(thing)
+    return kind([put_at(one, path[1:], part) if at == path[0] else one for at, one in enumerate(thing)])
+
+
+def otherwise(part):
+    """What may stand in the place of a part of a thing, each of them other than it."""
+    some = [None, True, False, 0, 1, -1, TWENTY, "", "round", "worths", (), [], (0,), [part], (part,)]
+    if is_whole(part):
+        some += [part + 1, part - 1, -part, str(part), bool(part)]
+    if type(part) is str:
+        some += [part + "s", part[:-1], part.upper(), [part], tuple(part)]
+    if type(part) in (tuple, list):
+        some += [list(part), part[1:], part[:-1], part + part[-1:], part[::-1], part + type(part)([0])]
+    return [one for one in some if repr(one) != repr(part)]
+
+
+def any_things():
+    deep = 0
+    for turn in range(8):
+        deep = [deep] if turn % 2 else (deep,)
+    return (None, True, False, 0, 1, -1, TWENTY, -TWENTY, "", "a", "worths", " " * 400, (), [], ((),), [[]], (None,),
+            ("worths",), ("ring", 1, (), ()), (0,) * 2999, [0] * 2999, deep, ("tell", "zed", (1, 0)), ("bell",))

@@ -7,7 +7,8 @@ from itertools import product
 from bundleclocks.dealing import best, best_table, brings, shows
 from bundleclocks.errors import NoChoice
 from sums import (
-    TWENTY, all_choices, best_by_look, bound_again, bundles_again, choice_sum, most_again, random_bids, taken_away,
+    TWENTY, all_choices, best_by_look, bound_again, bundles_again, choice_sum, first_best_again, most_again,
+    random_bids,
 )
 
 AMOUNTS = (2, 1)
@@ -214,19 +215,8 @@ class Best(unittest.TestCase):
             self.assertEqual(brings(amounts, bids, choice), most_again(amounts, bids))
 
     def test_the_first_of_larger_ones(self):
-        # No lesser part of any bidder, with the parts ahead as they are, brings as much.
         for amounts, bids in random_bids(5, 60) + [LARGE]:
-            choice = best(amounts, bids)
-            most, left = most_again(amounts, bids), amounts
-            for bidder, row in enumerate(bids):
-                ahead = len(row) if choice[bidder] is None else choice[bidder]
-                for bundle, money in row[:ahead]:
-                    other = taken_away(left, bundle)
-                    if other is not None:
-                        self.assertLess(money + most_again(other, bids[bidder + 1:]), most)
-                if choice[bidder] is not None:
-                    left = taken_away(left, row[choice[bidder]][0])
-                    most -= row[choice[bidder]][1]
+            self.assert_best(amounts, bids, first_best_again(amounts, bids))
 
     def test_by_names_and_again(self):
         self.assertEqual(best(bids=BIDS, amounts=AMOUNTS), (1, None, None, None))
